@@ -99,6 +99,12 @@ func TestSet(t *testing.T) {
 			t.Errorf("Set(%v, %d): %d", c.l, c.tag, err)
 		}
 	}
+	// A list that the new attribute would repair is rejected all the same.
+	for _, l := range [][]api.Attr{{{Tag: 5}, {Tag: 5}}, {{Tag: 5, Value: strings.Repeat("x", 256)}}, {{Tag: 5}, {Tag: 5}, {Tag: 9}}} {
+		if got, err := Set(l, 5, "new"); len(got) != 0 || err != api.ErrAttr {
+			t.Errorf("Set in %v: %d", l, err)
+		}
+	}
 	if got, err := Set(list(32), 3, "new"); len(got) != 32 || got[0].Value != "new" || err != api.OK {
 		t.Error("Set of one of 32")
 	}

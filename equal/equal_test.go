@@ -5,7 +5,7 @@ import (
 	"testing"
 )
 
-var samples = []string{"", "a", "b", "ab", "abc", "abd", "xbc", "abcd", "\x00", "\x00\x00", strings.Repeat("q", 40), strings.Repeat("q", 39) + "r", "r" + strings.Repeat("q", 39), strings.Repeat("q", 41)}
+var samples = []string{"", "a", "b", "ab", "abc", "abd", "xbc", "abcd", "\x00", "\x00\x00", strings.Repeat("q", 40), strings.Repeat("q", 39) + "r", "r" + strings.Repeat("q", 39), strings.Repeat("q", 41), strings.Repeat("q", 1000), strings.Repeat("q", 999) + "r"}
 
 // P4.1, P4.3
 func TestScan(t *testing.T) {
@@ -38,7 +38,7 @@ func TestScan(t *testing.T) {
 
 // P4.1
 func TestNought(t *testing.T) {
-	for _, s := range []string{"", "\x00", strings.Repeat("\x00", 100)} {
+	for _, s := range []string{"", "\x00", strings.Repeat("\x00", 1000)} {
 		if all, n := Nought(s); !all || n != len(s) {
 			t.Errorf("Nought(%q) = %t, %d", s, all, n)
 		}

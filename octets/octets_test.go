@@ -49,7 +49,7 @@ func TestCut(t *testing.T) {
 		at, n int
 		want  string
 	}{
-		{"abcdef", 0, 2, "ab"}, {"abcdef", 2, 3, "cde"}, {"abcdef", 4, 2, "ef"}, {"abcdef", 4, 9, "ef"}, {"abcdef", 5, math.MaxInt, "f"},
+		{"abcdef", 0, 2, "ab"}, {"abcdef", 1, 1, "b"}, {"abcdef", 0, 1, "a"}, {"abcdef", 2, 3, "cde"}, {"abcdef", 4, 2, "ef"}, {"abcdef", 4, 9, "ef"}, {"abcdef", 5, math.MaxInt, "f"},
 		{"abcdef", 6, 1, ""}, {"abcdef", 7, 1, ""}, {"abcdef", -1, 3, ""}, {"abcdef", 0, 0, ""}, {"abcdef", 0, -1, ""},
 		{"", 0, 1, ""}, {"abc", math.MaxInt, math.MaxInt, ""}, {"abc", math.MinInt, 5, ""},
 	} {

@@ -69,7 +69,7 @@ func TestArmor(t *testing.T) {
 	}
 	for _, n := range sizes {
 		b := random(r, n)
-		name := []string{"X", "PRIVATE KEY", strings.Repeat("A", 40), "0  9"}[n%4]
+		name := []string{"X", "PRIVATE KEY", strings.Repeat("A", 40), "0  9Z"}[n%4]
 		want := string(stdpem.EncodeToMemory(&stdpem.Block{Type: name, Bytes: []byte(b)}))
 		got, err := Armor(name, b)
 		if got != want || err != api.OK {

@@ -98,7 +98,10 @@ func TestCheckAndNames(t *testing.T) {
 		_, e1 := Put("", s, "", 0, api.Record{}, "")
 		_, e2 := Add("", s, "", 0, "")
 		_, _, e3 := Get("", s, "")
-		_, _, e4 := Blob(s, "")
+		format, b, e4 := Blob(s, "")
+		if format != 0 || b != "" {
+			t.Errorf("Blob of an invalid store: %d, %q", format, b)
+		}
 		_, e5 := Drop(s, "")
 		_, e6 := Move(s, "", "x")
 		_, e7 := Rekey("", "", s)
@@ -248,7 +251,7 @@ func TestRekey(t *testing.T) {
 		kek, to string
 		s       api.Store
 		want    api.Errno
-	}{{"", other, s, api.ErrKey}, {kek, "", s, api.ErrKey}, {kek, "short", api.Store{}, api.ErrKey}, {other, kek, s, api.ErrSum}, {kek, other, broken, api.ErrSize}, {kek, other, slots("a"), api.ErrSize}} {
+	}{{"", other, s, api.ErrKey}, {kek, "", s, api.ErrKey}, {kek, "short", api.Store{}, api.ErrKey}, {"short", other, api.Store{}, api.ErrKey}, {other, kek, s, api.ErrSum}, {kek, other, broken, api.ErrSize}, {kek, other, slots("a"), api.ErrSize}} {
 		if got, err := Rekey(c.kek, c.to, c.s); len(got.Slots) != 0 || err != c.want {
 			t.Errorf("Rekey: %d, want %d", err, c.want)
 		}

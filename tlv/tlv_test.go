@@ -234,6 +234,13 @@ func TestPieces(t *testing.T) {
 			t.Errorf("Pieces(%.40x) = %.100x, %v", c.s, got, fault)
 		}
 	}
+	longest := el(0, 4, false, strings.Repeat("x", api.MaxSize-4))
+	if l, fault := Pieces(longest); len(longest) != api.MaxSize || len(l) != 1 || fault.Code != api.OK {
+		t.Error("a piece of the greatest size")
+	}
+	if l, fault := Pieces(longest + "x"); len(l) != 0 || fault != (api.Fault{Code: api.ErrSize}) {
+		t.Error("a piece that is too long")
+	}
 	if l, fault := Pieces(strings.Repeat("\x05\x00", 32767)); len(l) != 32767 || fault.Code != api.OK {
 		t.Error("many pieces")
 	}

@@ -167,6 +167,10 @@ func TestSubAndKids(t *testing.T) {
 	if len(kids) != 3 || !reflect.DeepEqual(kids[0], Sub(s, 1)) || !reflect.DeepEqual(kids[1], Sub(s, 4)) || !reflect.DeepEqual(kids[2], Sub(s, 5)) {
 		t.Errorf("Kids = %v", kids)
 	}
+	deepest := nested(16)
+	if !reflect.DeepEqual(Sub(deepest, 0), deepest) || !reflect.DeepEqual(Sub(deepest, 5), nested(11)) || !reflect.DeepEqual(Kids(deepest), []api.Tree{nested(15)}) {
+		t.Error("Sub of a deep tree")
+	}
 	if len(Kids(nil)) != 0 || len(Kids(null())) != 0 {
 		t.Error("Kids of nothing")
 	}
